@@ -6,6 +6,7 @@ import math
 import pathlib
 import unittest
 
+from tests.asking import Case, Kept, ask, begin, buy, buy_all, drop, look, matches, worst
 from wheeldraw.wheel import answers
 
 WITHOUT_WHEEL = {
@@ -26,54 +27,6 @@ WITHOUT_WHEEL = {
 }
 
 
-def begin(n, k, t):
-    return [0, n, k, t]
-
-
-def buy(*ticket):
-    return [1, len(ticket), *ticket]
-
-
-def drop(place):
-    return [2, place]
-
-
-def look():
-    return [3]
-
-
-def matches(*draw):
-    return [4, len(draw), *draw]
-
-
-def worst():
-    return [5]
-
-
-def buy_all(tickets):
-    return [buy(*ticket) for ticket in tickets]
-
-
-def split(told):
-    """The answers, a list for each call."""
-    parts = []
-    at = 0
-    while at < len(told):
-        assert told[at] >= 0, told
-        end = at + 1 + told[at]
-        parts.append(told[at + 1:end])
-        at = end
-    return parts
-
-
-def ask(*calls):
-    """The answers to these calls as one line, a list for each call."""
-    told = answers([number for call in calls for number in call])
-    parts = split(told)
-    assert sum(len(part) + 1 for part in parts) == len(told), told
-    return parts
-
-
 def worst_by_hand(n, t, tickets):
     """What worst is to answer, reckoned by sets."""
     found = None
@@ -82,21 +35,6 @@ def worst_by_hand(n, t, tickets):
         if found is None or best < found[0]:
             found = [best, *draw]
     return found
-
-
-class Case(unittest.TestCase):
-    def check(self, *pairs):
-        """Each pair is a call and its answer; all calls stand in one line."""
-        told = ask(*[call for call, answer in pairs])
-        self.assertEqual(told, [answer for call, answer in pairs])
-
-    def check_refused(self, before, call, refusal):
-        """The call is refused after these, and all that can be seen stays as it was."""
-        seen = [look(), worst(), matches(0, 1, 2), matches(0, 1), buy(0, 1), drop(0), look()]
-        plain = ask(*before, *seen)
-        told = ask(*before, call, *seen)
-        self.assertEqual(told[len(before)], [refusal], (before, call))
-        self.assertEqual(told[:len(before)] + told[len(before) + 1:], plain, (before, call))
 
 
 class Form(Case):
@@ -110,12 +48,6 @@ class Form(Case):
             self.assertIs(type(number), int)
 
     def test_what_is_handed_in_is_not_changed(self):
-        class Kept(list):
-            def refuse(self, *given):
-                raise AssertionError("the list that is handed in is changed")
-            append = extend = insert = pop = remove = clear = refuse
-            sort = reverse = __setitem__ = __delitem__ = __iadd__ = __imul__ = refuse
-
         calls = [0, 4, 2, 2, 1, 2, 0, 1, 1, 2, 1, 0, 1, 0, 3, 4, 2, 0, 1, 5, 2, 0, 2, 9, 0, 1, 1, 1]
         kept = Kept(calls)
         told = answers(kept)
@@ -149,7 +81,7 @@ class Form(Case):
         flat = [30, *[number for ticket in tickets for number in ticket]]
         self.assertEqual(told[31:], [flat] * 9)
 
-    def test_calls_among_others_that_come_later(self):
+    def test_among_calls_that_change_nothing(self):
         # None of the calls between changes anything, whatever it answers.
         told = ask(
             begin(4, 2, 2), [6, 0], buy(0, 1), [7, 1], buy(2, 3), [8, 1], look(), [9, 0],

@@ -8,6 +8,11 @@ DROP = 2
 LOOK = 3
 MATCHES = 4
 WORST = 5
+COVERS = 6
+NEXT = 7
+FEWEST = 8
+NEEDED = 9
+PAYS = 10
 
 # The calls to which a row is handed over: buy, matches and pays.
 ROW_CALLS = (1, 4, 10)
@@ -57,6 +62,15 @@ def answer_call(wheel, call, given):
         return wheel.matches(given)
     if call == WORST:
         return wheel.worst()
-    # The calls from covers on are not built yet: they answer no numbers, so
-    # that the calls around them in a line are still answered rightly.
-    return []
+    if call == COVERS:
+        return wheel.covers(given[0])
+    if call == NEXT:
+        return wheel.next_ticket(given[0])
+    if call == FEWEST:
+        return wheel.fewest(given[0])
+    if call == NEEDED:
+        return wheel.needed(given[0])
+    if call == PAYS:
+        return wheel.pays(given)
+    # Least, 11, is the one call that is left.
+    return wheel.least(given[0])
